@@ -5,7 +5,7 @@ NOT_BEGUN = -11
 ALREADY_KEPT = -17
 NOT_FIT = -22
 FULL = -28
-NOBODY = -33
+NONE_THERE = -33
 
 PRIMES_END = 200
 MOST_KEPT = 12
@@ -16,7 +16,7 @@ BEGIN = 0
 ARGUMENT_COUNTS = (1, 1, 1, 0, 1, 1, 0, 2, 1, 2, 2, 1, 1, 0, 0, 0, 0, 2, 0)
 
 # These calls are handed points alone, and are refused first of all where one of them isn't on the ring.
-CALLS_OF_POINTS = (1, 2, 7, 8, 9)
+CALLS_OF_POINTS = (1, 2, 7, 8, 9, 10, 11, 17)
 
 
 class Ring:
@@ -66,9 +66,48 @@ def led_to_by_each(ring, sources):
     return [point for point in range(ring.prime) if each_leads_to(ring, sources, point)]
 
 
-def leading_to_each_kept(ring):
-    # No point leads to itself, so one that is kept is never among these.
-    return [point for point in range(ring.prime) if leads_to_each(ring, point, ring.kept_points)]
+def leading_to_each(ring, targets):
+    # No point leads to itself, so none of the targets is ever among these.
+    return [point for point in range(ring.prime) if leads_to_each(ring, point, targets)]
+
+
+def led_to_by_any(ring, sources):
+    points = {}
+    for source in sources:
+        for square in ring.squares:
+            points[(source + square) % ring.prime] = True
+    return points
+
+
+def how_often_led(ring, sources, targets):
+    """How many ordered pairs there are of a source and a target to which it leads."""
+    often = 0
+    for source in sources:
+        often += len([target for target in targets if leads_to(ring, source, target)])
+    return often
+
+
+def leads_both_ways(ring):
+    return ring.prime % 4 == 1
+
+
+def how_many_pairs(ring, sources, targets):
+    # Where one leads both ways the two lists are always the same, and a pair is met in both its orders.
+    often = how_often_led(ring, sources, targets)
+    return often // 2 if leads_both_ways(ring) else often
+
+
+def greatest_group_upon(ring, members, fitting, best):
+    """The best group so far, or a greater one of these members and some of those fitting, all rising."""
+    if len(members) > len(best):
+        best = members
+    for at, point in enumerate(fitting):
+        # As many as the best has are not enough: of these the best came first already.
+        if len(members) + len(fitting) - at <= len(best):
+            break
+        still_fitting = [later for later in fitting[at + 1:] if leads_to(ring, point, later)]
+        best = greatest_group_upon(ring, members + [point], still_fitting, best)
+    return best
 
 
 def counted(points):
@@ -124,9 +163,9 @@ def times(ring, given):
 def grow(ring, given):
     if len(ring.kept_points) == MOST_KEPT:
         return [FULL]
-    leading = leading_to_each_kept(ring)
+    leading = leading_to_each(ring, ring.kept_points)
     if len(leading) == 0:
-        return [NOBODY]
+        return [NONE_THERE]
     ring.kept_points.append(leading[0])
     return [leading[0]]
 
@@ -149,6 +188,59 @@ def common(ring, given):
     return counted(led_to_by_each(ring, given))
 
 
+def into(ring, given):
+    if given[0] == given[1]:
+        return [NOT_FIT]
+    return counted(leading_to_each(ring, given))
+
+
+def rounds(ring, given):
+    # Those that x leads to are also those that lead to it where one leads both ways: y and z are met either way about.
+    return [how_many_pairs(ring, led_to_by_each(ring, given), leading_to_each(ring, given))]
+
+
+def differ(ring, given):
+    difference = given[0]
+    if difference % ring.prime == 0:
+        return [NOT_FIT]
+    return [len([square for square in ring.squares if (square - difference) % ring.prime in ring.squares])]
+
+
+def who(ring, given):
+    return counted(leading_to_each(ring, ring.kept_points))
+
+
+def inner(ring, given):
+    return [how_many_pairs(ring, ring.kept_points, ring.kept_points)]
+
+
+def group(ring, given):
+    many = len(ring.kept_points)
+    often = how_often_led(ring, ring.kept_points, ring.kept_points)
+    return [1 if often == many * (many - 1) else 0]
+
+
+def greatest(ring, given):
+    if not leads_both_ways(ring):
+        return [NONE_THERE]
+    return counted(greatest_group_upon(ring, [0, 1], led_to_by_each(ring, [0, 1]), []))
+
+
+def steps(ring, given):
+    source = given[0]
+    target = given[1]
+    taken = 0
+    reached = {source: True}
+    while target not in reached:
+        reached = led_to_by_any(ring, reached)
+        taken += 1
+    return [taken]
+
+
+def told(ring, given):
+    return [ring.prime, ring.prime % 4]
+
+
 CALLS = {
     0: begin,
     1: put,
@@ -160,6 +252,15 @@ CALLS = {
     7: leads,
     8: of,
     9: common,
+    10: into,
+    11: rounds,
+    12: differ,
+    13: who,
+    14: inner,
+    15: group,
+    16: greatest,
+    17: steps,
+    18: told,
 }
 
 

@@ -1,4 +1,4 @@
-"""Promise 1: begin, put, take, kept, move, times, grow."""
+"""Promise 1: begin, put, take, kept, told, move, times, grow."""
 
 import unittest
 
@@ -84,6 +84,25 @@ class Kept(unittest.TestCase):
 
     def test_asking_changes_nothing(self):
         self.assertEqual(ask("begin 5, put 4, kept, kept, put 1, kept")[2:], [[1, 4], [1, 4], [2], [2, 4, 1]])
+
+
+class Told(unittest.TestCase):
+    def test_each_prime_and_what_it_leaves_by_four(self):
+        for prime in ODD_PRIMES:
+            self.assertEqual(ask(f"begin {prime}, told"), [[0], [prime, prime % 4]])
+        self.assertEqual(last("begin 3, told"), [3, 3])
+        self.assertEqual(last("begin 5, told"), [5, 1])
+        self.assertEqual(last("begin 197, told"), [197, 1])
+        self.assertEqual(last("begin 199, told"), [199, 3])
+
+    def test_the_newest_begin_that_was_not_refused(self):
+        self.assertEqual(
+            ask("begin 7, told, begin 9, told, begin 13, told, begin 200, told"),
+            [[0], [7, 3], [-22], [7, 3], [0], [13, 1], [-22], [13, 1]],
+        )
+
+    def test_asking_changes_nothing(self):
+        self.assertEqual(ask("begin 5, put 4, told, kept, told")[2:], [[5, 1], [1, 4], [5, 1]])
 
 
 class Move(unittest.TestCase):

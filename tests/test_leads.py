@@ -1,4 +1,4 @@
-"""Promise 2, as far as it tells of leads, of and common."""
+"""Promise 2, as far as it tells of leads, of, common and into."""
 
 import unittest
 
@@ -122,10 +122,61 @@ class Common(unittest.TestCase):
             self.assertEqual(last(f"begin 7, common {pair}"), [-2])
 
 
+class Into(unittest.TestCase):
+    def test_each_pair_by_small_primes(self):
+        for prime in SQUARES:
+            for x in range(prime):
+                for y in range(prime):
+                    both = [z for z in range(prime) if {x, y} <= set(points_led_to(prime, z))]
+                    expected = [-22] if x == y else [len(both)] + both
+                    with self.subTest(prime=prime, x=x, y=y):
+                        self.assertEqual(last(f"begin {prime}, into {x} {y}"), expected)
+
+    def test_worked_by_hand(self):
+        # By 7 to 0 lead 3, 5, 6 and to 1 lead 0, 4, 6. By 5 one leads both ways. By 11 to 0 lead 2, 6, 7, 8, 10.
+        self.assertEqual(last("begin 7, into 0 1"), [1, 6])
+        self.assertEqual(last("begin 5, into 0 2"), [1, 1])
+        self.assertEqual(last("begin 5, into 0 1"), [0])
+        self.assertEqual(last("begin 3, into 0 1"), [0])
+        self.assertEqual(last("begin 11, into 0 1"), [2, 7, 8])
+
+    def test_the_same_as_common_just_where_the_prime_leaves_one(self):
+        for prime in (5, 13, 101, 197):
+            for y in range(1, prime):
+                shared, both = ask(f"begin {prime}, common 0 {y}, into 0 {y}")[1:]
+                self.assertEqual(both, shared)
+        for prime in (7, 103, 199):
+            for y in range(1, prime):
+                shared, both = ask(f"begin {prime}, common 0 {y}, into 0 {y}")[1:]
+                self.assertEqual(both[0], shared[0])
+                self.assertEqual(set(both[1:]) & set(shared[1:]), set())
+
+    def test_rising_in_whichever_order_they_are_named(self):
+        rows = ask("begin 199, into 198 0, into 0 198")
+        self.assertEqual(rows[1], rows[2])
+        self.assertEqual(rows[1][1:], sorted(rows[1][1:]))
+        self.assertEqual(rows[1][0], 49)
+
+    def test_a_point_with_itself(self):
+        for prime in (3, 5, 199):
+            self.assertEqual(last(f"begin {prime}, into {prime - 1} {prime - 1}"), [-22])
+            self.assertEqual(last(f"begin {prime}, into 0 0"), [-22])
+
+    def test_no_such_point(self):
+        for pair in ("7 0", "0 7", f"{GREATEST} 0", f"0 {GREATEST}"):
+            self.assertEqual(last(f"begin 7, into {pair}"), [-2])
+
+    def test_no_such_point_comes_ahead_of_itself(self):
+        for pair in ("7 7", f"{GREATEST} {GREATEST}"):
+            self.assertEqual(last(f"begin 7, into {pair}"), [-2])
+
+
 class KeptDoesNotMatter(unittest.TestCase):
     def test_asking_neither_heeds_nor_changes_what_is_kept(self):
         rows = ask("begin 7, put 2, put 0, leads 0 2, of 0, common 0 1, leads 0 0, of 7, common 1 1, kept")
         self.assertEqual(rows[3:], [[1], [3, 1, 2, 4], [1, 2], [-22], [-2], [-22], [2, 2, 0]])
+        rows = ask("begin 7, put 6, put 0, into 0 1, into 1 1, into 1 7, kept")
+        self.assertEqual(rows[3:], [[1, 6], [-22], [-2], [2, 6, 0]])
 
 
 if __name__ == "__main__":
