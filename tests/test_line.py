@@ -1,10 +1,13 @@
 """What stands ahead of the promises, and the interface: a line of calls, and its answers as they stand."""
 
 import contextlib
+import inspect
 import io
+import re
 import sys
 import unittest
 
+from primering import differences
 from primering.differences import answers
 from tests.helper import ARGUMENT_COUNTS, GREATEST, NAMES, ask, due, last, line
 
@@ -233,6 +236,8 @@ class AllCallsMixed(unittest.TestCase):
 
 
 class NothingIsKept(unittest.TestCase):
+    watching = False
+
     def test_what_is_handed_in_stays_as_it_was(self):
         calls = line(LONG_LINE)
         before = list(calls)
@@ -260,6 +265,15 @@ class NothingIsKept(unittest.TestCase):
         with contextlib.redirect_stdout(out), contextlib.redirect_stderr(err):
             answers(line(MIXED_LINE))
         self.assertEqual((out.getvalue(), err.getvalue()), ("", ""))
+
+    def test_nothing_is_imported_or_read(self):
+        found = set()
+        sys.addaudithook(lambda event, given: found.add(event) if self.watching else None)
+        self.watching = True
+        answers(line(MIXED_LINE))
+        self.watching = False
+        self.assertEqual(found & {"import", "open", "exec", "compile"}, set())
+        self.assertEqual(set(re.findall(r"^\s*(?:from|import)\b", inspect.getsource(differences), re.MULTILINE)), set())
 
     def test_calls_are_not_deep_within_one_another(self):
         depth = 0
